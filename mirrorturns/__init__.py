@@ -1,0 +1,1 @@
+"""Mirrorturns: rooms with mirrors that turn when a beam hits them."""
