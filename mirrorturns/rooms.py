@@ -107,6 +107,14 @@ class Room:
         return Room(*rows)
 
 
+def with_sign(room, at, sign):
+    """Returns the room with another sign on one tile."""
+    row, column = at
+    rows = list(room.rows)
+    rows[row] = rows[row][:column] + sign + rows[row][column + 1:]
+    return Room(*rows)
+
+
 def path(room, port):
     """Yields the tiles that a beam passes, in order, as often as it passes them."""
     check_port(room, port)

@@ -62,6 +62,18 @@ def one_beam(rows, port):
     return tiles, port_behind(row, column, high, wide), after
 
 
+def all_beams(rows):
+    """Where a beam leaves and the rows afterwards, for each port."""
+    return [one_beam(rows, port)[1:] for port in range(2 * (len(rows) + len(rows[0])))]
+
+
+def with_tile(rows, at, sign):
+    """The rows with another sign on one tile."""
+    signs = [list(row) for row in rows]
+    signs[at[0]][at[1]] = sign
+    return tuple("".join(row) for row in signs)
+
+
 def small_layouts():
     """The rows of every room of at most three tiles, and of every room of two by two."""
     for high, wide in [(1, 1), (1, 2), (2, 1), (1, 3), (3, 1), (2, 2)]:

@@ -8,6 +8,20 @@ PACKAGE = pathlib.Path(__file__).resolve().parent.parent / "mirrorturns"
 DEFINED = {
     "rooms": ["Room", "path", "send", "unsent"],
     "repeats": ["nth_exit", "after_beams", "find_cycle", "count_passes", "never_passed"],
+    "journeys": ["fewest_beams", "count_rooms", "telling_beams"],
+    "hidden": ["Observer"],
+    "bench": ["Bench"],
+    "errors": ["MirrorError", "InvalidRoom", "UnknownPort", "UnknownTile", "InvalidNumber", "OtherRoom",
+               "TooMany", "Contradiction", "NotTurning", "InvalidName", "UnknownName", "InvalidOperation"],
+}
+METHODS = {
+    ("rooms", "Room"): [
+        "__init__", "parse", "rows", "text", "size", "turning", "__call__", "__len__", "__getitem__",
+        "__bool__", "__eq__", "__invert__"],
+    ("hidden", "Observer"): ["__init__", "see", "see_all", "signs", "history", "best_port"],
+    ("bench", "Bench"): [
+        "__init__", "beam", "turn", "turn_all", "undo", "redo", "room_now", "passes", "operations", "save",
+        "restore", "batch", "replay"],
 }
 
 
@@ -50,6 +64,15 @@ class Form(unittest.TestCase):
                      if isinstance(node, (ast.FunctionDef, ast.ClassDef))]
             for word in expected:
                 self.assertIn(word, found)
+
+    def test_methods_are_defined_in_their_classes(self):
+        for (name, word), expected in METHODS.items():
+            tree = ast.parse((PACKAGE / (name + ".py")).read_text())
+            body = next(node.body for node in tree.body
+                        if isinstance(node, ast.ClassDef) and node.name == word)
+            found = [node.name for node in body if isinstance(node, ast.FunctionDef)]
+            for method in expected:
+                self.assertIn(method, found)
 
 
 if __name__ == "__main__":
